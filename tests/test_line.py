@@ -3,11 +3,12 @@
 import copy
 import unittest
 
-from tests.helper import (GREEDY, HIGHEST, LEAST, PARTS, PLAN, ask, ask_last, ask_shop, begin, cost, fees, keeping,
-                          lies, need)
+from tests.helper import (BOTH, DAILY, GREEDY, HIGHEST, LEAST, ONCE, PARTS, PLAN, STATE, SUMS, alone, ask, ask_last,
+                          ask_shop, begin, cost, dear, fees, keeping, lies, need, together, would)
 from twostores.shop import answers
 
-OTHERS = [need(0, 1), fees(1, 1), keeping(1, 1), LEAST, PLAN, cost([0, 0]), lies([0, 0]), PARTS, GREEDY]
+OTHERS = [need(0, 1), fees(1, 1), keeping(1, 1), LEAST, PLAN, cost([0, 0]), lies([0, 0]), PARTS, GREEDY, alone(1, 1),
+          would(0, 1), dear(1, 1), BOTH, DAILY, ONCE, together([1]), SUMS, STATE]
 
 
 class Unchanging(list):
@@ -28,12 +29,26 @@ class TheList(unittest.TestCase):
             1, -11, 1, 0, 1, 0, 1, 0, 1, 23, 5, 23, 7, 0, 7, 0, 2, 39, 16,
             5, 7, 4, 1, 1, 1, 3, 23, 14, 9, 2, 24, 1, 2, 10, 5, 2, 1, 2])
 
+    def test_the_later_calls_too(self):
+        calls = [18, 16, 1, 9, 0, 2, 10, 5, 1, 2, 1, 0, 3, 1, 1, 4, 10, 10, 1, 11, 1, 0, 12, 10, 20, 13, 14, 15,
+                 16, 2, 1, 1, 17, 18, 16, 0, 10, 7, 101, 11, 2, 0, 12, 0, 10001, 18]
+        self.assertEqual(answers(calls), [
+            1, -11, 1, -11, 1, 0, 1, 0, 1, 0, 1, 14, 2, 15, 23, 2, 38, 23, 1, 30, 1, 24, 1, 23,
+            2, 25, 40, 6, 0, 7, 10, 5, 1, 2, 3, 2, 3, 4, 1, -22, 1, -22, 1, -2, 1, -22, 3, 2, 3, 4])
+
     def test_a_row_of_any_length_is_passed_over_whole(self):
         for size in range(21):
             row = [4] * size
             told = ask(cost(row), begin(1, 0, 0, 0, 0), cost(row), lies(row), need(0, 5), need(0, 6))
             fits = size == 2
             self.assertEqual(told, [[-11], [0], [0, 0] if fits else [-22], [4, 0, 4] if fits else [-22], [0], [5]])
+
+    def test_a_row_of_needs_of_any_length_is_passed_over_whole(self):
+        for size in range(11):
+            row = [4] * size
+            told = ask(together(row), begin(2, 0, 0, 0, 0), together(row), need(0, 5), together(row), need(0, 6))
+            fits = [0, 0] if size == 2 else [-22]
+            self.assertEqual(told, [[-11], [0], fits, [0], fits, [5]])
 
     def test_one_call_and_four_hundred(self):
         self.assertEqual(answers([4]), [1, -11])
@@ -57,7 +72,11 @@ class TheList(unittest.TestCase):
 
     def test_nothing_is_kept_from_one_time_to_the_next(self):
         ask(begin(3, 1, 1, 1, 1), need(0, 7))
-        self.assertEqual(ask(LEAST, need(0, 1)), [[-11], [-11]])
+        self.assertEqual(ask(LEAST, need(0, 1), STATE, SUMS), [[-11]] * 4)
+        calls = [begin(2, 9, 9, 1, 1), need(0, 7), would(1, 8), together([3, 4]), dear(1, 2), PLAN, SUMS, STATE]
+        first = ask(*calls)
+        ask(begin(7, 10000, 10000, 100, 100), need(6, 1000), together([1000] * 7))
+        self.assertEqual(ask(*calls), first)
 
     def test_all_that_is_answered_is_whole_numbers(self):
         told = answers(sum(OTHERS + [begin(1, 2, 3, 4, 5)] + OTHERS, []))
@@ -72,7 +91,8 @@ class NotBegun(unittest.TestCase):
 
     def test_not_begun_is_ahead_of_all_other_refusals(self):
         for call in [need(HIGHEST, HIGHEST), need(0, 1001), fees(10001, 0), keeping(2, 1), cost([]), lies([]),
-                     cost([HIGHEST] * 20), lies([HIGHEST] * 20)]:
+                     cost([HIGHEST] * 20), lies([HIGHEST] * 20), alone(10001, 101), would(HIGHEST, HIGHEST),
+                     would(0, 1001), dear(10001, 10001), together([]), together([HIGHEST] * 10)]:
             self.assertEqual(ask(call), [[-11]])
 
     def test_a_refused_begin_is_no_begin(self):
@@ -80,8 +100,8 @@ class NotBegun(unittest.TestCase):
             self.assertEqual(ask(begin(0, 0, 0, 0, 0), call, begin(1, 0, 0, 0, 101), call), [[-22], [-11]] * 2)
 
     def test_what_was_asked_before_a_begin_leaves_nothing(self):
-        told = ask(*OTHERS, begin(1, 2, 3, 4, 5), need(0, 0), fees(0, 0), keeping(0, 0))
-        self.assertEqual(told[-4:], [[0], [0], [2, 3], [4, 5]])
+        told = ask(*OTHERS, begin(1, 2, 3, 4, 5), STATE, SUMS, need(0, 0), fees(0, 0), keeping(0, 0))
+        self.assertEqual(told[-6:], [[0], [1, 0], [0, 0, 2, 3, 4, 5], [0], [2, 3], [4, 5]])
 
 
 class RefusedChangesNothing(unittest.TestCase):
@@ -91,9 +111,12 @@ class RefusedChangesNothing(unittest.TestCase):
         (need(3, 5), -2), (need(HIGHEST, HIGHEST), -2), (need(1, 1001), -22),
         (fees(10001, 0), -22), (fees(0, 10001), -22), (keeping(2, 1), -22), (keeping(0, 101), -22),
         (cost([0] * 5), -22), (lies([0] * 7), -22), (cost([100001] * 6), -22), (cost([0] * 6), -12),
-        (lies([0] * 6), -12)]
-    after = [PLAN, LEAST, PARTS, GREEDY, cost([20, 0, 0, 9, 9, 2]), lies([20, 0, 0, 9, 9, 2]),
-             need(0, 0), need(1, 0), need(2, 0), fees(0, 0), keeping(0, 0)]
+        (lies([0] * 6), -12), (alone(10001, 100), -22), (alone(10000, 101), -22), (would(3, 5), -2),
+        (would(HIGHEST, HIGHEST), -2), (would(1, 1001), -22), (dear(10001, 0), -22), (dear(0, 10001), -22),
+        (together([]), -22), (together([0, 0]), -22), (together([0] * 4), -22), (together([0, 1001, 0]), -22)]
+    asking = [PLAN, LEAST, PARTS, GREEDY, cost([20, 0, 0, 9, 9, 2]), lies([20, 0, 0, 9, 9, 2]), alone(9, 1),
+              would(1, 500), dear(2, 300), BOTH, DAILY, ONCE, together([7, 0, 70]), SUMS, STATE]
+    after = asking + [need(0, 0), need(1, 0), need(2, 0), fees(0, 0), keeping(0, 0)]
 
     def test_each_refusal_alone_and_all_together(self):
         plain = ask_shop([4, 5, 6], (30, 20, 1, 2), *self.after)
@@ -106,8 +129,8 @@ class RefusedChangesNothing(unittest.TestCase):
 
     def test_what_only_asks_changes_nothing(self):
         plain = ask_shop([4, 5, 6], (30, 20, 1, 2), *self.after)
-        told = ask_shop([4, 5, 6], (30, 20, 1, 2), *self.after[:6], *self.after)
-        self.assertEqual(told, plain[:6] + plain)
+        told = ask_shop([4, 5, 6], (30, 20, 1, 2), *self.asking, *self.after)
+        self.assertEqual(told, plain[:len(self.asking)] + plain)
 
 
 class Changes(unittest.TestCase):

@@ -1,8 +1,9 @@
-"""Of point 3: parts and greedy; and what holds between them and the least."""
+"""Of point 3 parts and greedy; and what holds between the least, parts, greedy, alone and together."""
 
 import unittest
 
-from tests.helper import GREEDY, LEAST, PARTS, ask_shop, mixed_shops, slow_alone, slow_greedy, slow_plan
+from tests.helper import (GREEDY, LEAST, PARTS, alone, ask_shop, drawer, mixed_shops, slow_alone, slow_greedy,
+                          slow_plan, together)
 
 
 def asked(needs, terms, call):
@@ -92,19 +93,36 @@ class PartByPart(unittest.TestCase):
 
     def test_where_bringing_is_free(self):
         for needs, (u, d, a, b) in mixed_shops(10, 150, 7):
-            least, parts = ask_shop(needs, (u, 0, a, b), LEAST, PARTS)
+            least, parts, storehouse = ask_shop(needs, (u, 0, a, b), LEAST, PARTS, alone(u, a))
             self.assertEqual(least[0], slow_alone(needs, u, a)[0])
+            self.assertEqual(least, storehouse)
             self.assertEqual(parts, [least[0], least[0], 0])
 
     def test_where_ordering_is_free(self):
         for needs, (u, d, a, b) in mixed_shops(11, 150, 7):
-            least, greedy = ask_shop(needs, (0, d, a, b), LEAST, GREEDY)
+            least, greedy, shop = ask_shop(needs, (0, d, a, b), LEAST, GREEDY, alone(d, b))
             self.assertEqual(least[0], slow_alone(needs, d, b)[0])
+            self.assertEqual(least, shop)
             self.assertEqual(greedy, [least[0], 0])
 
     def test_where_keeping_costs_the_same_in_both(self):
         for needs, (u, d, a, b) in mixed_shops(12, 150, 7):
             self.assertEqual(asked(needs, (u, d, b, b), LEAST)[0], slow_alone(needs, u + d, b)[0])
+            # Halved, so that both fees together are a fee that alone takes.
+            u, d = u // 2, d // 2
+            least, one_store = ask_shop(needs, (u, d, b, b), LEAST, alone(u + d, b))
+            self.assertEqual(least, one_store)
+
+    def test_two_shops_together_are_no_dearer_than_apart(self):
+        draw = drawer(13)
+        cheaper = 0
+        for needs, terms in mixed_shops(14, 300, 7):
+            other = [draw((0, 0, 1, 5, 40, 1000)) for _ in needs]
+            joined, apart = asked(needs, terms, together(other))
+            self.assertLessEqual(joined, apart)
+            self.assertGreaterEqual(joined, asked(needs, terms, LEAST)[0])
+            cheaper += joined < apart
+        self.assertGreater(cheaper, 0)
 
 
 if __name__ == "__main__":

@@ -2,8 +2,8 @@
 
 import unittest
 
-from tests.helper import (HIGHEST, LEAST, PLAN, ask_shop, behind, cost, every_plan, lies, mixed_shops, slow_cost,
-                          slow_plan)
+from tests.helper import (HIGHEST, LEAST, PLAN, alone, ask_shop, behind, cost, dear, every_plan, lies, mixed_shops,
+                          slow_cost, slow_plan, would)
 
 
 def asked(needs, terms, call):
@@ -241,6 +241,26 @@ class NeverCheaper(unittest.TestCase):
             for dearer in [(min(u + 5, 10000), d, a, b), (u, min(d + 5, 10000), a, b), (u, d, min(a + 1, b), b),
                            (u, d, a, min(b + 1, 100))]:
                 self.assertGreaterEqual(asked(needs, dearer, LEAST)[0], now)
+
+    def test_asked_with_would_and_dear(self):
+        for needs, terms in mixed_shops(15, 120, 6):
+            for day in range(len(needs)):
+                more, now = asked(needs, terms, would(day, min(1000, needs[day] + 3)))
+                fewer, as_now = asked(needs, terms, would(day, needs[day] // 2))
+                self.assertLessEqual(fewer, now)
+                self.assertLessEqual(now, more)
+                self.assertEqual(now, as_now)
+            u, d = terms[:2]
+            for pair in [(min(u + 5, 10000), d), (u, min(d + 5, 10000)), (10000, 10000)]:
+                dearer, now = asked(needs, terms, dear(*pair))
+                self.assertLessEqual(now, dearer)
+
+    def test_of_one_store_alone(self):
+        for needs, (u, d, a, b) in mixed_shops(16, 120, 6):
+            now, more_fee, more_keeping = ask_shop(needs, (u, d, a, b), alone(u, a), alone(min(u + 5, 10000), a),
+                                                   alone(u, b))
+            self.assertLessEqual(now, more_fee)
+            self.assertLessEqual(now, more_keeping)
 
 
 if __name__ == "__main__":

@@ -1,6 +1,6 @@
 """The calls on a shop with a storehouse behind it, and their answers."""
 
-from twostores.stores import alone_cost, greedy_cost, least_plan, left_behind, plan_cost
+from twostores.stores import alone_cost, amounts, greedy_cost, least_plan, left_behind, plan_cost
 
 NONE_SUCH = -2
 NOT_BEGUN = -11
@@ -35,6 +35,19 @@ def told_plan(shop):
     return least_plan(shop.needs, shop.fee_pair, shop.keep_pair)
 
 
+def least_now(shop):
+    return told_plan(shop)[0]
+
+
+def least_for(shop, needs):
+    """The least with the shop's fees and keeping, for other needs."""
+    return least_plan(needs, shop.fee_pair, shop.keep_pair)[0]
+
+
+def cost_of(shop, ordered, brought):
+    return plan_cost(ordered, brought, shop.needs, shop.fee_pair, shop.keep_pair)
+
+
 def begin(shop, given):
     if given[0] < 1 or given[0] > MOST_DAYS:
         return [OUT_OF_RANGE]
@@ -46,12 +59,20 @@ def begin(shop, given):
     return [0]
 
 
+def need_refusal(shop, day, pieces):
+    """The refusal that is due if a day is to need so many, or 0."""
+    if day >= len(shop.needs):
+        return NONE_SUCH
+    if pieces > MOST_NEEDED:
+        return OUT_OF_RANGE
+    return 0
+
+
 def need(shop, given):
     day = given[0]
-    if day >= len(shop.needs):
-        return [NONE_SUCH]
-    if given[1] > MOST_NEEDED:
-        return [OUT_OF_RANGE]
+    refusal = need_refusal(shop, day, given[1])
+    if refusal < 0:
+        return [refusal]
     before = shop.needs[day]
     shop.needs[day] = given[1]
     return [before]
@@ -74,7 +95,7 @@ def keeping(shop, given):
 
 
 def least(shop, given):
-    return [told_plan(shop)[0]]
+    return [least_now(shop)]
 
 
 def plan(shop, given):
@@ -98,8 +119,8 @@ def cost(shop, given):
     if refusal < 0:
         return [refusal]
     days = len(shop.needs)
-    price = plan_cost(given[:days], given[days:], shop.needs, shop.fee_pair, shop.keep_pair)
-    return [price, price - told_plan(shop)[0]]
+    price = cost_of(shop, given[:days], given[days:])
+    return [price, price - least_now(shop)]
 
 
 def lies(shop, given):
@@ -122,13 +143,71 @@ def parts(shop, given):
 
 def greedy(shop, given):
     price = greedy_cost(shop.needs, shop.fee_pair, shop.keep_pair)
-    return [price, price - told_plan(shop)[0]]
+    return [price, price - least_now(shop)]
+
+
+def alone(shop, given):
+    if given[0] > MOST_FEE or given[1] > MOST_KEEPING:
+        return [OUT_OF_RANGE]
+    return [alone_cost(shop.needs, given[0], given[1])]
+
+
+def would(shop, given):
+    day = given[0]
+    refusal = need_refusal(shop, day, given[1])
+    if refusal < 0:
+        return [refusal]
+    needs = list(shop.needs)
+    needs[day] = given[1]
+    return [least_for(shop, needs), least_now(shop)]
+
+
+def dear(shop, given):
+    if not fees_fit(given[0], given[1]):
+        return [OUT_OF_RANGE]
+    price = least_plan(shop.needs, (given[0], given[1]), shop.keep_pair)[0]
+    return [price, least_now(shop)]
+
+
+def all_at_first(needs):
+    """What is taken day by day, if all that is needed is taken on day 0."""
+    return amounts([0], needs)
+
+
+def both(shop, given):
+    return [cost_of(shop, shop.needs, shop.needs)]
+
+
+def daily(shop, given):
+    return [cost_of(shop, all_at_first(shop.needs), shop.needs)]
+
+
+def once(shop, given):
+    first = all_at_first(shop.needs)
+    return [cost_of(shop, first, first)]
+
+
+def together(shop, given):
+    if len(given) != len(shop.needs) or any([pieces > MOST_NEEDED for pieces in given]):
+        return [OUT_OF_RANGE]
+    joined = [one + other for one, other in zip(shop.needs, given)]
+    return [least_for(shop, joined), least_now(shop) + least_for(shop, given)]
+
+
+def sums(shop, given):
+    return [0, sum(shop.needs)] + list(shop.fee_pair) + list(shop.keep_pair)
+
+
+def state(shop, given):
+    return [len(shop.needs)] + shop.needs
 
 
 # By a call's number: what answers it, and how many whole numbers it has (those with a row have none besides).
-CALLS = (begin, need, fees, keeping, least, plan, cost, lies, parts, greedy)
-SIZES = (5, 2, 2, 2, 0, 0, 0, 0, 0, 0)
-WITH_ROW = (6, 7)
+CALLS = (begin, need, fees, keeping, least, plan, cost, lies, parts, greedy,
+         alone, would, dear, both, daily, once, together, sums, state)
+SIZES = (5, 2, 2, 2, 0, 0, 0, 0, 0, 0,
+         2, 2, 2, 0, 0, 0, 0, 0, 0)
+WITH_ROW = (6, 7, 16)
 BEGIN = 0
 
 
